@@ -38,6 +38,10 @@ func told(results ...any) string {
 			for _, y := range x {
 				b.WriteString(wordsOf(y))
 			}
+		case impl.Sheet:
+			b.WriteString(told(x.Wide, x.High, x.Wrap, x.Speeds, x.Losses))
+		case impl.Field:
+			b.WriteString(told(x.E, x.X, x.Y))
 		default:
 			fmt.Fprint(&b, x)
 		}
