@@ -43,7 +43,7 @@ func anySheet(source *numbers, wide, high int64, wrap bool) impl.Sheet {
 	s := blankSheet(wide, high, wrap)
 	for i := range s.Speeds {
 		s.Speeds[i] = picked(source, []float32{0, negativeZero, least, 0.5, part(source) / 2, part(source) / 2})
-		s.Losses[i] = picked(source, []float32{0, negativeZero, least, 1, part(source), part(source)})
+		s.Losses[i] = picked(source, []float32{0, negativeZero, least, 1, part(source), part(source) * part(source)})
 	}
 	return s
 }

@@ -133,9 +133,8 @@ func TestMeasuresOfMirroredFields(t *testing.T) {
 	})
 }
 
-// stepped makes the step that the document tells, for the sake of signs and
-// places: what is mirrored for the eye alone would step in another way.
-func (c scene) stepped() scene {
+// halfStepped makes the half step that the document tells.
+func (c scene) halfStepped() scene {
 	s, f := c.s, copyField(c.f)
 	at := func(list []float32, x, y int64) *float32 { return atCell(list, s.Wide, s.High, x, y) }
 	eachCell(s, func(x, y int64) {
@@ -147,6 +146,14 @@ func (c scene) stepped() scene {
 			*at(f.Y, x, y) += float32(0.5 * (*at(f.E, x+1, y) - *at(f.E, x, y)))
 		}
 	})
+	return scene{s, f}
+}
+
+// stepped makes the step that the document tells, for the sake of signs and
+// places: what is mirrored for the eye alone would step in another way.
+func (c scene) stepped() scene {
+	s, f := c.s, c.halfStepped().f
+	at := func(list []float32, x, y int64) *float32 { return atCell(list, s.Wide, s.High, x, y) }
 	eachCell(s, func(x, y int64) {
 		if free, _, _ := isFree(s, x, y); free {
 			d := (*at(f.Y, x, y) - *at(f.Y, x-1, y)) - (*at(f.X, x, y) - *at(f.X, x, y-1))
