@@ -38,10 +38,16 @@ func told(results ...any) string {
 			for _, y := range x {
 				b.WriteString(wordsOf(y))
 			}
+		case [][]float32:
+			for _, y := range x {
+				b.WriteString(told(y))
+			}
 		case impl.Sheet:
 			b.WriteString(told(x.Wide, x.High, x.Wrap, x.Speeds, x.Losses))
 		case impl.Field:
 			b.WriteString(told(x.E, x.X, x.Y))
+		case impl.Wave:
+			b.WriteString(told(x.Kind, x.At, x.Long, x.Turns, x.Size, x.Seed))
 		default:
 			fmt.Fprint(&b, x)
 		}
