@@ -48,6 +48,8 @@ func told(results ...any) string {
 			b.WriteString(told(x.E, x.X, x.Y))
 		case impl.Wave:
 			b.WriteString(told(x.Kind, x.At, x.Long, x.Turns, x.Size, x.Seed))
+		case impl.Bin:
+			b.WriteString(told(x.Turns, x.Step, x.Sum))
 		default:
 			fmt.Fprint(&b, x)
 		}
