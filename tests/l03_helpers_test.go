@@ -130,3 +130,13 @@ func refusesSteps(t *testing.T, what string, s impl.Sheet, f impl.Field, steps i
 		is(t, "QuietAfter "+what, told(n, ok), told(int64(0), false))
 	}
 }
+
+// withField takes all numbers of a field.
+func (d digest) withField(f impl.Field) digest {
+	for _, list := range listsOf(f) {
+		for _, x := range list {
+			d = d.with(bitsOf(x))
+		}
+	}
+	return d
+}

@@ -185,49 +185,44 @@ func TestStepsOfOneNumber(t *testing.T) {
 	}
 }
 
-// The digests are those of a second program, in another language, that follows
-// the document.
+// secondRuns are runs of a second program, in another language, that follows the
+// document. They are told by digests.
+var secondRuns = []struct {
+	seed       uint64
+	wide, high int64
+	wrap       bool
+	kind       string
+	steps      int64
+	want       digest
+}{
+	{1, 3, 3, false, "near", 1, 0xd7f71dab351fd61a},
+	{2, 3, 3, true, "near", 1, 0x5134b1845b97b9e6},
+	{3, 3, 3, false, "near", 64, 0xb6cc12130f13e0c3},
+	{4, 3, 3, true, "near", 64, 0xb819d5956c39af5b},
+	{5, 7, 4, false, "near", 1, 0x3f8f114cca5cefdb},
+	{6, 7, 4, true, "near", 1, 0x8530f5a2626f6d0b},
+	{7, 4, 7, false, "near", 64, 0x5eb56279c525a17c},
+	{8, 4, 7, true, "near", 64, 0x35d41a5443117d6c},
+	{9, 16, 16, false, "near", 1, 0x22055556cced7846},
+	{10, 16, 16, true, "near", 1, 0xf2fb49a6b767cf88},
+	{11, 16, 16, false, "near", 64, 0xee4a59766e5adb0f},
+	{12, 16, 16, true, "near", 64, 0x8a0bf3972fcb4ae9},
+	{13, 16, 3, false, "ordinary", 2, 0x764b4eaf2eb1affe},
+	{14, 3, 16, true, "ordinary", 2, 0x1b827c4b7a060737},
+	{15, 5, 16, false, "ordinary", 64, 0x9e77adede44492f2},
+	{16, 16, 5, true, "ordinary", 64, 0x651cb8fb05dcb619},
+	{17, 6, 5, false, "special", 1, 0x36525a4a58bd0533},
+	{18, 6, 5, true, "special", 1, 0x517084efa8ca601c},
+	{19, 16, 16, false, "special", 1, 0xc20e111a07655e06},
+	{20, 16, 16, true, "special", 1, 0xdc0413d293c42a16},
+	{21, 9, 8, false, "special", 3, 0xe6bc157c01dc1788},
+	{22, 9, 8, true, "special", 3, 0xc5748bb6812b06e5},
+}
+
 func TestRunsOfASecondProgram(t *testing.T) {
-	cases := []struct {
-		seed       uint64
-		wide, high int64
-		wrap       bool
-		kind       string
-		steps      int64
-		want       digest
-	}{
-		{1, 3, 3, false, "near", 1, 0xd7f71dab351fd61a},
-		{2, 3, 3, true, "near", 1, 0x5134b1845b97b9e6},
-		{3, 3, 3, false, "near", 64, 0xb6cc12130f13e0c3},
-		{4, 3, 3, true, "near", 64, 0xb819d5956c39af5b},
-		{5, 7, 4, false, "near", 1, 0x3f8f114cca5cefdb},
-		{6, 7, 4, true, "near", 1, 0x8530f5a2626f6d0b},
-		{7, 4, 7, false, "near", 64, 0x5eb56279c525a17c},
-		{8, 4, 7, true, "near", 64, 0x35d41a5443117d6c},
-		{9, 16, 16, false, "near", 1, 0x22055556cced7846},
-		{10, 16, 16, true, "near", 1, 0xf2fb49a6b767cf88},
-		{11, 16, 16, false, "near", 64, 0xee4a59766e5adb0f},
-		{12, 16, 16, true, "near", 64, 0x8a0bf3972fcb4ae9},
-		{13, 16, 3, false, "ordinary", 2, 0x764b4eaf2eb1affe},
-		{14, 3, 16, true, "ordinary", 2, 0x1b827c4b7a060737},
-		{15, 5, 16, false, "ordinary", 64, 0x9e77adede44492f2},
-		{16, 16, 5, true, "ordinary", 64, 0x651cb8fb05dcb619},
-		{17, 6, 5, false, "special", 1, 0x36525a4a58bd0533},
-		{18, 6, 5, true, "special", 1, 0x517084efa8ca601c},
-		{19, 16, 16, false, "special", 1, 0xc20e111a07655e06},
-		{20, 16, 16, true, "special", 1, 0xdc0413d293c42a16},
-		{21, 9, 8, false, "special", 3, 0xe6bc157c01dc1788},
-		{22, 9, 8, true, "special", 3, 0xc5748bb6812b06e5},
-	}
-	for _, c := range cases {
+	for _, c := range secondRuns {
 		from := anyScene(&numbers{c.seed}, c.wide, c.high, c.wrap, someKinds[c.kind])
-		got := newDigest
-		for _, list := range listsOf(from.ran(t, c.steps).f) {
-			for _, x := range list {
-				got = got.with(bitsOf(x))
-			}
-		}
-		is(t, fmt.Sprintf("the digest of %+v", c), got, c.want)
+		is(t, fmt.Sprintf("the digest of %+v", c), newDigest.withField(from.ran(t, c.steps).f), c.want)
 	}
 }
 
